@@ -1,0 +1,1 @@
+"""Who stands where arguments beat one another."""

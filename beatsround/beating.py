@@ -5,6 +5,10 @@ A set is a number whose bits say which arguments are in it.
 """
 
 
+def everyone(beats):
+    return (1 << len(beats)) - 1
+
+
 def beaters_of_each(beats):
     """For each argument the set of those that beat it."""
     return [beaters_of(beats, a) for a in range(len(beats))]
@@ -36,3 +40,25 @@ def rounds(beats):
     for step in range(len(beats)):
         found.append(shielded_by(beats, found[step]))
     return found
+
+
+def first_with(several, a):
+    """The place of the first of the sets that has a, or None."""
+    for place, members in enumerate(several):
+        if members >> a & 1:
+            return place
+    return None
+
+
+def least_of(members):
+    return (members & -members).bit_length() - 1
+
+
+def left_by(beats, members):
+    """The set of all that the set members neither has nor beats."""
+    return everyone(beats) & ~(members | beaten_by(beats, members))
+
+
+def cut_to(beats, left):
+    """Who beats whom when those in the set left are as before, and every other one beats itself alone."""
+    return [beats[a] & left if left >> a & 1 else 1 << a for a in range(len(beats))]

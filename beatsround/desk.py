@@ -54,7 +54,41 @@ def call_ground(arguments, reader):
     return arguments.ground()
 
 
-CALLS = {0: call_begin, 1: call_set, 2: call_turn, 3: call_sets, 4: call_is, 5: call_ground}
+def call_ideal(arguments, reader):
+    return arguments.ideal()
+
+
+def call_round(arguments, reader):
+    return arguments.round_of(reader.take())
+
+
+def call_answer(arguments, reader):
+    return arguments.answer_to(reader.take())
+
+
+def call_status(arguments, reader):
+    kind = reader.take()
+    a = reader.take()
+    return arguments.status(kind, a)
+
+
+def call_cut(arguments, reader):
+    return arguments.cut(reader.take())
+
+
+CALLS = {
+    0: call_begin,
+    1: call_set,
+    2: call_turn,
+    3: call_sets,
+    4: call_is,
+    5: call_ground,
+    6: call_ideal,
+    7: call_round,
+    8: call_answer,
+    9: call_status,
+    10: call_cut,
+}
 
 
 def answers(calls):

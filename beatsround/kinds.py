@@ -4,6 +4,7 @@ Here a row is a tuple of three sets: the members of a set, all that they beat, a
 """
 
 from beatsround.beating import beaters_of_each
+from beatsround.beating import everyone
 
 
 def peaceful_rows(beats):
@@ -38,10 +39,6 @@ def has_all_it_shields(row, beaters):
 def reach(row):
     """What the set of the row has or beats."""
     return row[0] | row[1]
-
-
-def everyone(beats):
-    return (1 << len(beats)) - 1
 
 
 def utmost(rising):
@@ -96,6 +93,8 @@ def great(beats):
 
 
 KINDS = (peaceful, holding, complete, full, stable, far, great)
+HOLDING = 1
+FULL = 3
 
 
 def is_kind(kind):
@@ -104,3 +103,18 @@ def is_kind(kind):
 
 def sets_of_kind(beats, kind):
     return KINDS[kind](beats)
+
+
+def greatest_within(holding_sets, full_sets):
+    """Of the holding sets the greatest that all full ones have."""
+    shared = had_by_all(full_sets)
+    # The one that has all the others is the greatest number of them, and the empty set is always one of them.
+    return max([members for members in holding_sets if not members & ~shared])
+
+
+def had_by_all(several):
+    """The set of those that all of the sets have; there is at least one set."""
+    shared = several[0]
+    for members in several:
+        shared = shared & members
+    return shared

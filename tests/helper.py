@@ -34,6 +34,26 @@ def ground():
     return [5]
 
 
+def ideal():
+    return [6]
+
+
+def round_of(a):
+    return [7, a]
+
+
+def answer(b):
+    return [8, b]
+
+
+def status(kind, a):
+    return [9, kind, a]
+
+
+def cut(s):
+    return [10, s]
+
+
 def ask(*calls):
     """The answers to the calls, a list each."""
     written = answers([number for call in calls for number in call])
@@ -54,7 +74,14 @@ def ask_last(*calls):
 
 def look():
     """Calls that together show how many arguments there are and what follows from who beats whom."""
-    return [is_set(PEACEFUL, 1 << a) for a in range(17)] + [sets(kind) for kind in KINDS] + [ground()]
+    bounds = [is_set(PEACEFUL, 1 << a) for a in range(17)]
+    return bounds + [sets(kind) for kind in KINDS] + [ground(), ideal()] + look_at(range(4))
+
+
+def look_at(some):
+    """Calls that tell of each of some arguments."""
+    return ([round_of(a) for a in some] + [answer(b) for b in some]
+            + [status(kind, a) for kind in KINDS for a in some])
 
 
 def beats_of(n, pairs):
@@ -145,8 +172,40 @@ class Told:
     def numbers(self, kind):
         return [self.number(members) for members in self.sets(kind)]
 
+    def rounds(self):
+        found = [frozenset()]
+        while len(found) <= self.n:
+            found.append(self.shielded(found[-1]))
+        return found
+
     def ground(self):
-        members = frozenset()
-        for step in range(self.n):
-            members = self.shielded(members)
-        return self.number(members)
+        return self.number(self.rounds()[self.n])
+
+    def ideal(self):
+        within = [members for members in self.sets(HOLDING) if all(members <= other for other in self.sets(FULL))]
+        greatest, = [members for members in within if all(other <= members for other in within)]
+        return self.number(greatest)
+
+    def round_of(self, a):
+        rounds = self.rounds()
+        entered = [k for k in range(self.n + 1) if a in rounds[k]]
+        if entered:
+            return 2 * entered[0] - 1
+        beaten = [k for k in range(self.n + 1) if a in self.beaten(rounds[k])]
+        return 2 * beaten[0] if beaten else 0
+
+    def answer(self, b):
+        rounds = self.rounds()
+        such = [(self.round_of(a), a) for a in rounds[self.n] if (a, b) in self.beats]
+        return min(such)[1] if such else -2
+
+    def status(self, kind, a):
+        found = self.sets(kind)
+        some = 1 if any(a in members for members in found) else 0
+        return some + (2 if all(a in members for members in found) else 0)
+
+    def cut(self, s):
+        """How many the rest are, and who beats whom behind it."""
+        out = self.reach(self.members(s))
+        kept = [(a, b) for a, b in self.beats if a not in out and b not in out]
+        return self.n - len(out), beats_of(self.n, kept + [(a, a) for a in out])

@@ -4,7 +4,8 @@ import unittest
 
 from beatsround.desk import answers
 
-from tests.helper import begin, ground, is_set, put, ring, sets, turn, FULL, PEACEFUL
+from tests.helper import (
+    answer, begin, cut, ground, ideal, is_set, put, ring, round_of, sets, status, turn, FULL, PEACEFUL)
 
 A_LINE = [
     0,
@@ -19,6 +20,20 @@ A_LINE = [
     1, 1, 9,
     0,
     3, 6, 1,
+    1, 4, 2, 5, 0, 4,
+    6,
+    7, 2,
+    7, 4,
+    8, 2,
+    8, 0,
+    9, 3, 3,
+    9, 3, 0,
+    9, 7, 0,
+    10, 1,
+    5,
+    7, 1,
+    10, 16,
+    6,
 ]
 ITS_ANSWERS = [
     1, 0,
@@ -33,6 +48,20 @@ ITS_ANSWERS = [
     1, -1,
     1, 0,
     2, 1, 0,
+    1, 0,
+    2, 0, 8,
+    1, 2,
+    1, -1,
+    1, 3,
+    1, -2,
+    1, 3,
+    1, 1,
+    1, -1,
+    1, 2,
+    2, 0, 8,
+    1, 0,
+    1, -1,
+    2, 0, 8,
 ]
 
 
@@ -64,6 +93,11 @@ class Interface(unittest.TestCase):
         self.assertEqual(answers(turn(0, 0, 1)), [1, -1])
         self.assertEqual(answers(is_set(PEACEFUL, 1)), [1, -1])
         self.assertEqual(answers(sets(FULL)), [2, 1, 0])
+        self.assertEqual(answers(ideal()), [2, 0, 0])
+        self.assertEqual(answers(round_of(0)), [1, -1])
+        self.assertEqual(answers(answer(0)), [1, -1])
+        self.assertEqual(answers(status(FULL, 0)), [1, -1])
+        self.assertEqual(answers(cut(1)), [1, -1])
 
     def test_what_was_given_back_can_be_changed_without_a_trace(self):
         first = answers(A_LINE)

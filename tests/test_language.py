@@ -46,6 +46,15 @@ def bound_names(tree):
             yield from [part.asname or part.name for part in node.names]
 
 
+def defined_names(tree):
+    """The names that a file's top defines itself, not those that it draws from another."""
+    for part in tree.body:
+        if isinstance(part, (ast.FunctionDef, ast.ClassDef)):
+            yield part.name
+        elif isinstance(part, ast.Assign):
+            yield part.targets[0].id
+
+
 class Language(unittest.TestCase):
     def setUp(self):
         self.files = [path for path in sorted(PACKAGE.iterdir()) if path.name != "__pycache__"]
@@ -81,8 +90,7 @@ class Language(unittest.TestCase):
             self.assertNotRegex(text, "dataclass|overload|contextmanager", name)
 
     def test_imports(self):
-        defined = {name: {part.name for part in tree.body if hasattr(part, "name")}
-                   for name, tree in self.trees.items()}
+        defined = {name: set(defined_names(tree)) for name, tree in self.trees.items()}
         for place, node in self.nodes():
             if isinstance(node, ast.ImportFrom):
                 self.assertEqual(node.level, 0, place)
